@@ -1,0 +1,1 @@
+"""Sets of four whole numbers by straight conditions, decided by their least machines."""
