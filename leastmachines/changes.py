@@ -6,14 +6,19 @@ from leastmachines.refusals import TooManySets
 MOST_SETS = 200
 
 
-# A state is a pair: where the row is in the one machine, and where in the other.
 def joined_machine(op, one, other):
+    pairs = pairs_machine(op, one, other)
+    return least_machine(pairs.ends, pairs.leads)
+
+
+# A state is a pair: where the row is in the one machine, and where in the other.
+# It's not the least machine, and may have more states than a register's may.
+def pairs_machine(op, one, other):
     walk = Walk((0, 0))
     while walk.goes_on():
         pair = walk.current()
         walk.lead_on(list(zip(one.leads[pair[0]], other.leads[pair[1]])))
-    ends = [op >> (2 * one.ends[p] + other.ends[q]) & 1 for p, q in walk.met]
-    return least_machine(ends, walk.leads)
+    return Machine([op >> (2 * one.ends[p] + other.ends[q]) & 1 for p, q in walk.met], walk.leads)
 
 
 # A state is a set of the machine's states, rising: those that some bits of number v lead to.

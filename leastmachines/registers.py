@@ -1,15 +1,17 @@
 """The sixteen registers, the calls on them, and the answers to a list of calls."""
 
-from leastmachines.changes import all_machine, joined_machine, some_machine, swapped_machine
+from leastmachines.changes import all_machine, joined_machine, pairs_machine, some_machine, swapped_machine
 from leastmachines.conditions import at_most_machine, equal_machine, rest_machine
 from leastmachines.machines import VARIABLES, empty_machine
-from leastmachines.refusals import OutOfRange, TooManySets, TooManyStates
+from leastmachines.questions import count_rows, least_row, row_in, variables_hung_on, written_out
+from leastmachines.refusals import NoEnd, NoRow, OutOfRange, TooManyRows, TooManySets, TooManyStates
 
 REGISTERS = 16
 MOST_FACTOR = 4
 MOST_B = 100
 MOST_REST = 8
 MOST_OP = 15
+IN_THE_FIRST_ALONE = 4
 
 LINE = 0
 REST = 1
@@ -17,10 +19,16 @@ TWO = 2
 SOME = 3
 ALL = 4
 SWAP = 5
+HAS = 6
+FIRST = 7
+COUNT = 8
+HANGS = 9
+MACHINE = 10
+WITHIN = 11
 
 # Of each call, by its number: how many whole numbers it has, and how many lists behind them.
-FIELDS = (3, 3, 4, 3, 3, 4)
-LISTS = (1, 1, 0, 0, 0, 0)
+FIELDS = (3, 3, 4, 3, 3, 4, 1, 1, 1, 1, 1, 2)
+LISTS = (1, 1, 0, 0, 0, 0, 1, 0, 0, 0, 0, 0)
 
 
 def check_within(number, least, most):
@@ -43,6 +51,10 @@ def check_condition(b, factors):
     check_within(len(factors), VARIABLES, VARIABLES)
     for factor in factors:
         check_within(factor, -MOST_FACTOR, MOST_FACTOR)
+
+
+def with_list(number, numbers):
+    return [number, len(numbers)] + numbers
 
 
 # Each call checks its numbers first and puts its set last, so a refusal changes nothing.
@@ -88,6 +100,39 @@ class Registers:
         check_variables([v, w])
         return self.put(r, swapped_machine(self.machines[a], v, w))
 
+    def has(self, a, row):
+        check_registers([a])
+        check_within(len(row), VARIABLES, VARIABLES)
+        return [row_in(self.machines[a], row)]
+
+    def first(self, a):
+        check_registers([a])
+        row = least_row(self.machines[a])
+        if row is None:
+            raise NoRow()
+        return with_list(0, row)
+
+    def row_count(self, a):
+        check_registers([a])
+        return [count_rows(self.machines[a])]
+
+    def hangs(self, a):
+        check_registers([a])
+        variables = variables_hung_on(self.machines[a])
+        return with_list(len(variables), variables)
+
+    def machine(self, a):
+        check_registers([a])
+        return with_list(len(self.machines[a].ends), written_out(self.machines[a]))
+
+    # The pairs' machine is only walked, so no limit of states holds for it.
+    def within(self, a, b):
+        check_registers([a, b])
+        row = least_row(pairs_machine(IN_THE_FIRST_ALONE, self.machines[a], self.machines[b]))
+        if row is None:
+            return [1]
+        return with_list(0, row)
+
 
 # Reads numbers off the list that was handed in, which is left as it is.
 class Reader:
@@ -107,6 +152,8 @@ class Reader:
 
 
 def called(registers, call, f, lists):
+    if call > SWAP:
+        return asked(registers, call, f, lists)
     if call == LINE:
         return registers.line(f[0], f[1], f[2], lists[0])
     if call == REST:
@@ -118,6 +165,20 @@ def called(registers, call, f, lists):
     if call == ALL:
         return registers.for_all(f[0], f[1], f[2])
     return registers.swap(f[0], f[1], f[2], f[3])
+
+
+def asked(registers, call, f, lists):
+    if call == HAS:
+        return registers.has(f[0], lists[0])
+    if call == FIRST:
+        return registers.first(f[0])
+    if call == COUNT:
+        return registers.row_count(f[0])
+    if call == HANGS:
+        return registers.hangs(f[0])
+    if call == MACHINE:
+        return registers.machine(f[0])
+    return registers.within(f[0], f[1])
 
 
 # The whole call is read before anything is done, so that a refusal leaves the reader at the next one.
@@ -133,6 +194,12 @@ def answer(registers, reader):
         return [-7]
     except TooManyStates:
         return [-6]
+    except TooManyRows:
+        return [-6]
+    except NoRow:
+        return [-5]
+    except NoEnd:
+        return [-5]
 
 
 def answers(calls):

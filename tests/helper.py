@@ -1,16 +1,53 @@
 """What the tests share: writing calls, and working out sets by other ways than the program's."""
 
+import functools
 import itertools
 import math
 import unittest
 
-from leastmachines.registers import Reader, Registers, answer, answers
+from leastmachines.registers import answers
 
 LARGEST = 9223372036854775807
+MOST_CALLS = 40
 AND = 8
 OR = 14
 XOR = 6
 FIRST_ONLY = 4
+SECOND_ONLY = 2
+NEITHER = 1
+
+# All rows of small numbers, in order.
+SMALL_ROWS = list(itertools.product(range(5), repeat=4))
+
+# Sets made by each of the calls that put a set, told as holds and calls_for take them.
+KINDS = (
+    ("line", 0, 3, (1, 0, 0, 0)),
+    ("line", 0, 4, (1, 2, -1, 0)),
+    ("line", 0, 2, (0, -3, 0, 2)),
+    ("line", 0, 0, (1, 2, 3, 4)),
+    ("line", 0, -1, (1, 1, 1, 1)),
+    ("line", 1, 4, (2, 1, 1, 3)),
+    ("line", 1, -3, (1, -2, 0, -1)),
+    ("line", 1, 0, (0, 1, 0, -1)),
+    ("line", 1, 0, (-1, 0, -4, 0)),
+    ("rest", 3, 1, (1, 2, 0, 1)),
+    ("rest", 8, 5, (1, 0, 4, 2)),
+    ("rest", 2, 0, (0, 1, 2, -3)),
+    ("rest", 4, 3, (0, 0, 2, 4)),
+    ("two", AND, ("line", 1, 5, (1, 1, 1, 1)), ("rest", 3, 2, (1, 0, 2, 0))),
+    ("two", OR, ("line", 0, 3, (0, 1, 0, 1)), ("line", 1, -2, (0, 0, -1, 0))),
+    ("two", XOR, ("rest", 4, 2, (1, 3, 0, 0)), ("line", 1, 1, (-1, 0, 0, 2))),
+    ("two", NEITHER, ("line", 1, 1, (1, 0, 0, 0)), ("rest", 2, 1, (0, 0, 0, 1))),
+    ("some", ("line", 0, 2, (1, -3, 0, 0)), 1),
+    ("some", ("two", AND, ("line", 1, 1, (-1, 2, 0, 1)), ("rest", 3, 2, (0, 1, 0, 0))), 1),
+    ("some", ("two", FIRST_ONLY, ("line", 0, 4, (1, 0, 1, 1)), ("line", 1, 0, (0, 1, -1, 0))), 0),
+    ("all", ("line", 1, 2, (1, -1, 0, -1)), 3),
+    ("all", ("two", OR, ("rest", 2, 1, (0, 1, 1, 0)), ("line", 1, -1, (1, 0, -2, 0))), 2),
+    ("all", ("line", 1, 9, (0, 0, 1, 0)), 2),
+    ("swap", ("line", 1, 2, (1, -1, 2, -2)), 0, 3),
+    ("swap", ("two", AND, ("line", 0, 5, (1, 1, 1, 0)), ("rest", 3, 1, (0, 1, 0, 0))), 1, 2),
+    ("swap", ("some", ("line", 0, 1, (2, 1, -4, 0)), 0), 1, 3),
+)
 
 
 def line(r, k, b, a):
@@ -37,20 +74,66 @@ def swap(r, a, v, w):
     return [5, r, a, v, w]
 
 
+def has(a, x):
+    return [6, a, len(x)] + list(x)
+
+
+def first(a):
+    return [7, a]
+
+
+def count(a):
+    return [8, a]
+
+
+def hangs(a):
+    return [9, a]
+
+
+def machine(a):
+    return [10, a]
+
+
+def within(a, b):
+    return [11, a, b]
+
+
 def one_list(calls):
     return [number for call in calls for number in call]
 
 
+def answered(*calls):
+    """What is answered to each call, as a list of numbers."""
+    given = answers(one_list(calls))
+    parts = []
+    place = 0
+    while place < len(given):
+        parts.append(given[place + 1:place + 1 + given[place]])
+        place += 1 + given[place]
+    if len(parts) != len(calls) or place != len(given) or [] in parts:
+        raise AssertionError(f"not an answer for each call: {given}")
+    return parts
+
+
 def told(*calls):
     """What is answered to each call; all calls here answer one number."""
-    given = answers(one_list(calls))
-    if given[::2] != [1] * len(calls) or len(given) != 2 * len(calls):
-        raise AssertionError(f"not one number for each call: {given}")
-    return given[1::2]
+    parts = answered(*calls)
+    if max(len(part) for part in parts) > 1:
+        raise AssertionError(f"not one number for each call: {parts}")
+    return [part[0] for part in parts]
 
 
 def last(*calls):
     return told(*calls)[-1]
+
+
+def asked(setting, questions):
+    """What is answered to questions about the sets that the setting puts, by lists of at most 40 calls each."""
+    room = MOST_CALLS - len(setting)
+    parts = []
+    for place in range(0, len(questions), room):
+        parts += answered(*setting, *questions[place:place + room])[len(setting):]
+    return parts
 
 
 def single(r, spare, row):
@@ -72,22 +155,22 @@ def contains(calls, a, row):
 
 
 def machine_after(calls, a):
-    """The machine in register a, seen from within, as (ends, leads)."""
-    registers = Registers()
-    reader = Reader(one_list(calls))
-    while reader.goes_on():
-        answer(registers, reader)
-    machine = registers.machines[a]
-    return machine.ends, machine.leads
+    """The machine of register a's set, as (ends, leads)."""
+    given = answered(*calls, machine(a))[-1]
+    if given[1] != 17 * given[0] or len(given) != 2 + given[1]:
+        raise AssertionError(f"not a machine: {given}")
+    states = [given[place:place + 17] for place in range(2, len(given), 17)]
+    return tuple(state[0] for state in states), tuple(tuple(state[1:]) for state in states)
 
 
-def reads(machine, row):
+def reads(ends_and_leads, row):
     """Whether a row is in the set of a machine (ends, leads), as the document tells it."""
+    ends, leads = ends_and_leads
     state = 0
     while any(row):
-        state = machine[1][state][sum((row[v] & 1) << v for v in range(4))]
+        state = leads[state][sum((row[v] & 1) << v for v in range(4))]
         row = [number >> 1 for number in row]
-    return machine[0][state] == 1
+    return ends[state] == 1
 
 
 def by_rests_of_rows(belongs, variables, depth):
@@ -127,15 +210,16 @@ def by_rests_of_rows(belongs, variables, depth):
     return tuple(int(belongs(list(low))) for length, low in met), tuple(leads)
 
 
-def sets_of_states(machine, v):
+def sets_of_states(ends_and_leads, v):
     """How many sets of states are come to, of a machine (ends, leads) and a variable."""
-    first = frozenset([0])
-    seen = {first}
-    waiting = [first]
+    leads = ends_and_leads[1]
+    start = frozenset([0])
+    seen = {start}
+    waiting = [start]
     while waiting:
         states = waiting.pop()
         for letter in range(16):
-            reached = frozenset(machine[1][q][x] for q in states for x in (letter, letter ^ (1 << v)))
+            reached = frozenset(leads[q][x] for q in states for x in (letter, letter ^ (1 << v)))
             if reached not in seen:
                 seen.add(reached)
                 waiting.append(reached)
@@ -166,6 +250,12 @@ def holds(formula, row):
     one, v = formula[1:]
     turns = (holds(one, list(row[:v]) + [x] + list(row[v + 1:])) for x in range(enough(one, row)))
     return any(turns) if kind == "some" else all(turns)
+
+
+@functools.cache
+def small_rows_of(formula):
+    """The rows of small numbers that are in a formula's set, in order."""
+    return [row for row in SMALL_ROWS if holds(formula, row)]
 
 
 def enough(formula, row):
@@ -217,13 +307,13 @@ class SetCase(unittest.TestCase):
 
     def check_rows(self, calls, a, belongs, rows):
         self.check_taken(calls)
-        machine = machine_after(calls, a)
+        found = machine_after(calls, a)
         for row in rows:
-            self.assertEqual(reads(machine, row), bool(belongs(row)), (row, calls))
+            self.assertEqual(reads(found, row), bool(belongs(row)), (row, calls))
 
     def check_kept(self, setting, refused, refusal):
         """A refusal is answered, and leaves every register as it was."""
         self.check_taken(setting)
         self.assertEqual(last(*setting, refused), refusal)
-        for a in range(16):
-            self.assertEqual(machine_after([*setting, refused], a), machine_after(setting, a))
+        seen = [machine(a) for a in range(16)]
+        self.assertEqual(answered(*setting, refused, *seen)[-16:], answered(*setting, *seen)[-16:])

@@ -1,13 +1,12 @@
 import itertools
 import random
 
-from helper import (AND, FIRST_ONLY, LARGEST, OR, XOR, SetCase, by_rests_of_rows, calls_for, contains, every, holds,
-                    last, line, machine_after, rest, sets_of_states, some, told, two)
+from helper import (AND, FIRST_ONLY, LARGEST, NEITHER, OR, SECOND_ONLY, XOR, SetCase, by_rests_of_rows, calls_for,
+                    contains, every, holds, last, line, machine_after, rest, sets_of_states, some, told, two)
 
 SMALL = list(itertools.product(range(4), range(2), range(3), range(3)))
 IMPLIES = 11
 NOT_BOTH = 7
-NEITHER = 1
 
 
 def sets_case(last_op, first_op, by_4, by_5, at_most):
@@ -21,7 +20,7 @@ ALL_200 = sets_case(NOT_BOTH, NEITHER, (-8, (4, -3, -3, 0)), (5, (2, 4, -3, 0)),
 MANY_200 = sets_case(AND, AND, (-8, (4, -3, -2, 0)), (2, (4, 1, 3, 0)), (1, (4, 4, -4, 0)))
 SOME_201 = sets_case(AND, AND, (-8, (2, -3, 0, 0)), (5, (4, 4, 3, 0)), (-2, (-4, 4, -4, 0)))
 ALL_201 = sets_case(NOT_BOTH, AND, (-8, (-2, -3, 0, 0)), (3, (4, 4, 3, 0)), (1, (-4, 4, -4, 0)))
-MANY_201 = ("two", 2, ("two", 13, ("rest", 4, -12, (3, 4, 0, 0)), ("rest", 7, 6, (1, 4, 3, 0))),
+MANY_201 = ("two", SECOND_ONLY, ("two", 13, ("rest", 4, -12, (3, 4, 0, 0)), ("rest", 7, 6, (1, 4, 3, 0))),
             ("line", 1, -1, (-4, 4, 0, 0)))
 
 
@@ -151,7 +150,7 @@ class SomeAndAllTest(SetCase):
             return row[2] % 4 == 1 and row[2] >= 4 * row[0] - 3 and row[2] != 4 * row[0] + 21
 
         self.assertEqual(len(by_rests_of_rows(not_with_6, (0, 2), 6)[0]), 25)
-        setting = calls_for(("two", 2, ("line", 0, 6, (0, 1, 0, 0)), ("line", 0, -3, (-4, -4, 1, 0))))
+        setting = calls_for(("two", SECOND_ONLY, ("line", 0, 6, (0, 1, 0, 0)), ("line", 0, -3, (-4, -4, 1, 0))))
         self.check_kept(setting, some(0, 0, 1), -6)
 
     def sets_worked_out(self, formula):
